@@ -53,6 +53,20 @@ func TestMayBe(t *testing.T) {
 	}
 }
 
+func TestSide(t *testing.T) {
+	for _, c := range []struct {
+		place float32
+		want  int
+	}{
+		{-api.Far, 0}, {-1, 0}, {-math.SmallestNonzeroFloat32, 0},
+		{float32(math.Copysign(0, -1)), 1}, {0, 1}, {math.SmallestNonzeroFloat32, 1}, {api.Far, 1},
+	} {
+		if got := Side(c.place); got != c.want {
+			t.Errorf("Side(%v) = %d", c.place, got)
+		}
+	}
+}
+
 func TestCompare(t *testing.T) {
 	ordered := []api.ID{{Shard: 0, Number: 1}, {Shard: 0, Number: 2}, {Shard: 0, Number: 65535}, {Shard: 1, Number: 1}, {Shard: 1, Number: 65535}}
 	for i, a := range ordered {
