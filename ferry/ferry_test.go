@@ -162,9 +162,7 @@ func TestANewPair(t *testing.T) {
 		for shard := range 2 {
 			tells(t, p, shard, api.Marks{Generation: 1}, nil)
 			hasFiles(t, p, shard, "\x00\x0f\x06\x00\x01\x00\x00\x00\x00\x00\x00\x00\x00\x00\x00"+sumOfFirstBase(), "")
-			if l, e := p.Flight(shard); len(l) != 0 || e != api.OK {
-				t.Errorf("P6: Flight(%d) = %q, %d", shard, l, e)
-			}
+			underWay(t, p, shard)
 			answers(t, "P7: Crash", p.Crash(shard, -1), api.OK)
 			answers(t, "P12: Restart", p.Restart(shard), api.OK)
 			tells(t, p, shard, api.Marks{Generation: 1}, nil)
@@ -178,7 +176,7 @@ func sumOfFirstBase() string {
 	return string([]byte{byte(sum >> 8), byte(sum)})
 }
 
-// calls: every call that this package has so far, of a shard; all other arguments are right, if they can be.
+// calls: every call of a shard; all other arguments are right, if they can be.
 func calls(p *Pair, shard int) map[string]api.Errno {
 	_, mint := p.Mint(shard, float32(2*shard-1), 0)
 	_, world := p.World(shard)
@@ -189,6 +187,8 @@ func calls(p *Pair, shard int) map[string]api.Errno {
 	return map[string]api.Errno{
 		"Mint": mint, "World": world, "Outbox": outbox, "Marks": marks, "Flight": flight, "File": file,
 		"Destroy": p.Destroy(shard, api.ID{Shard: shard, Number: 1}), "Tick": p.Tick(shard), "Snapshot": p.Snapshot(shard),
+		"Send": p.Send(shard), "Inject": p.Inject(shard, "x"), "Double": p.Double(shard, 0), "Spoil": p.Spoil(shard, 0, 0),
+		"Deliver": p.Deliver(shard, 0), "Drop": p.Drop(shard, 0),
 		"Break": p.Break(shard, 0, 0), "Crash": p.Crash(shard, 0), "Restart": p.Restart(shard),
 	}
 }
@@ -203,6 +203,7 @@ func TestNoSuchShard(t *testing.T) {
 		}
 		for i := range 2 {
 			tells(t, p, i, api.Marks{Generation: 1}, nil)
+			underWay(t, p, i)
 		}
 	}
 }
@@ -216,6 +217,13 @@ func TestNoSuchShardIsNamedAheadOfAllElse(t *testing.T) {
 		answers(t, "P1: Mint", e, api.ErrArg)
 		answers(t, "P1: Destroy", p.Destroy(shard, api.ID{}), api.ErrArg)
 		answers(t, "P1: Break", p.Break(shard, -1, 0), api.ErrArg)
+		answers(t, "P1: Deliver", p.Deliver(shard, -1), api.ErrArg)
+		answers(t, "P1: Drop", p.Drop(shard, -1), api.ErrArg)
+		answers(t, "P1: Double", p.Double(shard, -1), api.ErrArg)
+		answers(t, "P1: Spoil", p.Spoil(shard, -1, -1), api.ErrArg)
+		if l, e := p.Flight(shard); l != nil || e != api.ErrArg {
+			t.Errorf("P1: Flight(%d) = %q, %d", shard, l, e)
+		}
 	}
 }
 
@@ -228,7 +236,7 @@ func TestAShardThatIsDown(t *testing.T) {
 		for name, e := range calls(p, shard) {
 			want := api.ErrDown
 			switch name {
-			case "Flight", "File", "Break", "Restart":
+			case "Inject", "Double", "Spoil", "Deliver", "Drop", "Flight", "File", "Break", "Restart":
 				want = api.OK
 			}
 			if e != want {
@@ -327,14 +335,6 @@ func TestDestroy(t *testing.T) {
 		api.Record{Kind: api.Destroy, Item: item(0, 1, 0, 0)}, mintOf(item(0, 3, -3, 0)), tick), "")
 	mints(t, p, 0, -4, 0, 4) // what is in the outbox is no more one of its things
 	mintsNone(t, p, 0, -4, 0, api.ErrQuota)
-}
-
-func TestExample3(t *testing.T) {
-	p := roomy(t)
-	mints(t, p, 0, -1, 2, 1)
-	answers(t, "P9: Tick", p.Tick(0), api.OK)
-	tells(t, p, 0, api.Marks{Generation: 1, Minted: 1, Sent: 1}, nil, api.Entry{Seq: 1, Item: item(0, 1, 1, 2)})
-	tells(t, p, 1, api.Marks{Generation: 1}, nil)
 }
 
 func TestExample5(t *testing.T) {

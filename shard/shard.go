@@ -26,9 +26,15 @@ func New(number int, c api.Config) *Shard {
 	return s
 }
 
+// encoded is a record as bytes. None is refused, since a shard makes only such as may be.
+func encoded(r api.Record) string {
+	bytes, _ := wire.Encode(r)
+	return bytes
+}
+
 // framed is a record as it stands in a journal: behind its length.
 func framed(r api.Record) string {
-	body, _ := wire.Encode(r)
+	body := encoded(r)
 	length := []byte{byte(len(body) >> 8), byte(len(body))}
 	return string(length) + body
 }
